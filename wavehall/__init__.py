@@ -1,0 +1,1 @@
+"""Wavehall: the air's bands, who disturbs whom, and whose silence helps."""
