@@ -6,15 +6,9 @@ import random
 import unittest
 
 from tests import helper
-from tests.helper import station
+from tests.helper import at_one_place
 from wavehall.cures import cure, enough, is_cure
 from wavehall.errors import NoStation, Silent
-
-
-def at_one_place(leak=20, **powers):
-    """An air in which what comes of each is its power, everywhere, and each needs but 1."""
-    return tuple(station(name, (0, 0), powers[name], (0, 0), 1) for name in sorted(powers)), leak
-
 
 # 11 of the 21 that disturb mid must go: no one is as much, nor is a with another one; b and k just are.
 AIR = at_one_place(a=2, b=5, k=6, mid=10, z=8)

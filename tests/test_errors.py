@@ -40,6 +40,16 @@ class Making(unittest.TestCase):
                     self.assertEqual(vars(kind(worth)), {field: worth})
                     self.assertEqual(vars(kind(**{field: worth})), {field: worth})
 
+    def test_what_was_handed_in_is_kept_as_a_copy(self):
+        for name in ("NoStation", "Silent", "NoLicence"):
+            with self.subTest(name):
+                thing = [1, (["x"], None), [True, []]]
+                made = getattr(errors, name)(thing)
+                thing[1][0].append(2)
+                thing[2][1].append(3)
+                thing.append(4)
+                self.assertEqual(repr(list(vars(made).values())), "[[1, (['x'], None), [True, []]]]")
+
     def test_a_field_must_be_told(self):
         for name in FIELDS:
             with self.subTest(name), self.assertRaises(TypeError):

@@ -174,6 +174,26 @@ def statements(file):
             yield "L19", node.lineno
 
 
+def withs(file):
+    for node in file.of(ast.With):
+        for part in node.items:
+            if not isinstance(part.context_expr, (ast.Call, ast.Name, ast.Attribute)) or not isinstance(
+                    part.optional_vars, (ast.Name, type(None))):
+                yield "L6", node.lineno
+    for node in file.of(ast.FunctionDef):
+        if node.name == "__exit__":
+            rows = [row for row in node.body if not is_docstring(row)]
+            yield from (("L6", row.lineno) for row in rows if not is_leaving(row))
+
+
+def is_leaving(row):
+    """Whether a row may stand in an __exit__: of those that may, the plainest only."""
+    if isinstance(row, ast.Assign):
+        plain = (ast.Name, ast.Attribute, ast.Constant)
+        return isinstance(row.targets[0], ast.Attribute) and isinstance(row.value, plain) and len(row.targets) == 1
+    return isinstance(row, ast.Pass)
+
+
 def expressions(file):
     for node in file.of(ast.Constant):
         if isinstance(node.value, (float, complex)):
@@ -273,7 +293,7 @@ def is_set_place(file, node):
     return isinstance(around, (ast.Compare, ast.BinOp)) or called(around) in ("sorted", "len")
 
 
-CHECKS = (files_and_sizes, imports, module_level, functions, statements, expressions, names, calls)
+CHECKS = (files_and_sizes, imports, module_level, functions, statements, withs, expressions, names, calls)
 
 
 def whole_package(files):
@@ -330,7 +350,10 @@ WRONG = {
     "L5": ["class A:\n    def __hash__(self):\n        return 1\n", "def __len__(a):\n    return 1\n",
            "class A(metaclass=int):\n    pass\n"],
     "L6": ["def f():\n    global k\n    k = 1\n", "async def f():\n    pass\n", "def f(a):\n    a\n",
-           "def f(a):\n    a == 1\n"],
+           "def f(a):\n    a == 1\n", "def f(a):\n    with a[0]:\n        pass\n",
+           "def f(a, b):\n    with a as b.c:\n        pass\n",
+           "class A:\n    def __exit__(self, *told):\n        self.k = len(self.rows)\n",
+           "class A:\n    def __exit__(self, *told):\n        return True\n"],
     "L7": ["k = 1.5\n", "def f(a):\n    return a / 2\n", "def f(a):\n    return (x for x in a)\n"],
     "L8": ["def f(a):\n    return hash(a)\n", "def f(a):\n    return round(a)\n", "def f(a):\n    print(a)\n",
            "def f(a):\n    return chr(a)\n"],
@@ -375,6 +398,10 @@ class Checks(unittest.TestCase):
         self.assertEqual(faults({"sample": (
             "k = (1, 'a', -2)\ndef f(a, *, b=1):\n    seen = set(a)\n    for x, y in zip(a, a):\n"
             "        seen.add(x)\n    return [x for x in a if x is not None and x in seen and b ** 2]\n")}), [])
+        self.assertEqual(faults({"sample": (
+            "class A:\n    def __init__(self, box):\n        self.box = box\n    def __enter__(self):\n"
+            "        self.box.held = True\n    def __exit__(self, *told):\n        self.box.held = False\n"
+            "def f(box):\n    with A(box):\n        return 1\n")}), [])
 
 
 class Package(unittest.TestCase):
@@ -386,7 +413,7 @@ class Package(unittest.TestCase):
 
     def test_it_is_free_of_faults(self):
         texts = {path.stem: path.read_text(encoding="ascii") for path in PACKAGE.glob("*.py")}
-        self.assertGreaterEqual(set(texts), {"errors", "airs", "cures"})
+        self.assertGreaterEqual(set(texts), {"errors", "airs", "cures", "plans", "moves", "house"})
         self.assertEqual(faults(texts), [])
 
     def test_python_gives_no_warning(self):

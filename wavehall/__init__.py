@@ -1,1 +1,1 @@
-"""Wavehall: the air's bands, who disturbs whom, and whose silence helps."""
+"""Wavehall: the air's bands, who disturbs whom, plans, moves, licences by hours, complaints."""

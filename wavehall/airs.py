@@ -1,6 +1,6 @@
 """Stations, airs and tunings: what comes of a station, who disturbs whom, who is heard."""
 
-from wavehall.errors import NoStation
+from wavehall.errors import NoStation, TooMany
 from wavehall.kinds import fraction, is_name, is_rising, is_tuple_of, is_whole, total
 
 MOST_STATIONS = 8
@@ -10,6 +10,8 @@ MOST_NEED = 1000
 MOST_LEAK = 1000
 LAST_BAND = 9
 SILENCE = 0
+# How far apart two bands are that don't disturb one another, however far that is.
+APART = 2
 
 
 def is_place(thing):
@@ -71,12 +73,22 @@ def seat(stations, name):
     raise NoStation(name)
 
 
-def arriving(station, hearer, divisor):
-    """What comes of the station at this hearer, divided by divisor."""
-    name, place, power, own_hearer, need = station
+def check_size(air, most):
+    """Refuses an air of more stations than most."""
+    if len(air[0]) > most:
+        raise TooMany(most)
+
+
+def spread(place, hearer):
+    """What a power is divided by on its way from the place to the hearer."""
     across = hearer[0] - place[0]
     along = hearer[1] - place[1]
-    return fraction(power, (across * across + along * along + 1) * divisor)
+    return across * across + along * along + 1
+
+
+def arriving(station, hearer, divisor):
+    """What comes of the station at this hearer, divided by divisor."""
+    return fraction(station[2], spread(station[1], hearer) * divisor)
 
 
 def comes(stations, name, other):
@@ -86,58 +98,90 @@ def comes(stations, name, other):
     return arriving(sender, receiver[3], 1)
 
 
-def divisor_between(band, other, leak):
-    """By how much what comes in the other band is divided in band; None where it doesn't disturb."""
-    if other == band:
-        return 1
-    if abs(other - band) == 1:
-        return leak
-    return None
+def gap(band, other):
+    """0 of the same band, 1 of bands side by side, APART of others and where one is silence."""
+    if SILENCE in (band, other):
+        return APART
+    return min(abs(band - other), APART)
 
 
 def disturbed_by(air, tuning, name):
     """By whom the station is disturbed and by how much: a rising list of (name, fraction)."""
     stations, leak = air
     at = seat(stations, name)
-    if tuning[at] == SILENCE:
-        return []
+    divisors = (1, leak)
     told = []
     for station, band in zip(stations, tuning):
-        # A silent station would else count as one in the band beside band 1.
-        if band == SILENCE or station[0] == name:
-            continue
-        divisor = divisor_between(tuning[at], band, leak)
-        if divisor is not None:
-            told.append((station[0], arriving(station, stations[at][3], divisor)))
+        apart = gap(tuning[at], band)
+        if apart != APART and station[0] != name:
+            told.append((station[0], arriving(station, stations[at][3], divisors[apart])))
     return told
 
 
-def demand(air, tuning, name):
-    """The station's need times all by which it is disturbed, as (top, bottom)."""
-    stations = air[0]
-    top, bottom = total([much for other, much in disturbed_by(air, tuning, name)])
-    need = stations[seat(stations, name)][4]
-    return (need * top, bottom)
+def ear(air, at):
+    """By what it is decided whether the station at this seat is heard: (own, others), for many tunings.
+
+    own is what comes of itself; others has for each station the need times what comes of it, by its gap. All are
+    multiplied by the same number, so that they are whole and nothing is divided.
+    """
+    stations, leak = air
+    hearer, need = stations[at][3:]
+    spreads = [spread(station[1], hearer) for station in stations]
+    product = 1
+    for much in spreads:
+        product *= much
+    shares = [station[2] * (product // much) for station, much in zip(stations, spreads)]
+    others = [(need * leak * share, need * share, 0) for share in shares]
+    # Nobody disturbs itself.
+    others[at] = (0, 0, 0)
+    return (leak * shares[at], others)
+
+
+def ears_of(air):
+    """The ears of all stations, as they stand."""
+    return [ear(air, at) for at in range(len(air[0]))]
+
+
+def hears(one_ear, band, tuning):
+    """Whether a station with this ear is heard in this band, others as in the tuning."""
+    own, others = one_ear
+    return own >= sum([much[gap(band, there)] for much, there in zip(others, tuning)])
+
+
+def first_unheard(ears, tuning):
+    """The first seat of one that sends and isn't heard; None where all are."""
+    for at, band in enumerate(tuning):
+        if band != SILENCE and not hears(ears[at], band, tuning):
+            return at
+    return None
+
+
+def all_heard(ears, tuning):
+    """Whether all who send are heard."""
+    return first_unheard(ears, tuning) is None
+
+
+def retuned(tuning, at, band):
+    """The tuning with this band at this seat."""
+    return tuning[:at] + (band,) + tuning[at + 1:]
 
 
 def is_heard(air, tuning, name):
     """Whether the station sends and is heard."""
-    stations = air[0]
-    if tuning[seat(stations, name)] == SILENCE:
-        return False
-    own_top, own_bottom = comes(stations, name, name)
-    top, bottom = demand(air, tuning, name)
-    return own_top * bottom >= top * own_bottom
+    at = seat(air[0], name)
+    return tuning[at] != SILENCE and hears(ear(air, at), tuning[at], tuning)
 
 
 def margin(air, tuning, name):
     """What comes of the station itself by need times all disturbance; None where silent or undisturbed."""
-    if not disturbed_by(air, tuning, name):
+    told = disturbed_by(air, tuning, name)
+    if not told:
         return None
     stations = air[0]
     own_top, own_bottom = comes(stations, name, name)
-    top, bottom = demand(air, tuning, name)
-    return fraction(own_top * bottom, own_bottom * top)
+    top, bottom = total([much for other, much in told])
+    need = stations[seat(stations, name)][4]
+    return fraction(own_top * bottom, own_bottom * need * top)
 
 
 def unheard(air, tuning):

@@ -37,15 +37,19 @@ def choices(names, many):
     return chosen
 
 
-def cure(air, tuning, name):
-    """The cure of fewest for a station that sends, of as few the first."""
-    others = other_senders(air, tuning, name)
+def fewest_of(air, tuning, name, others):
+    """The fewest of others by whose silence the station is heard, of as few the first; all of them are enough."""
     for many in range(len(others)):
         for names in choices(others, many):
             if is_heard(air, silenced(air, tuning, names), name):
                 return names
-    # Where all others are silent nothing disturbs it.
     return tuple(others)
+
+
+def cure(air, tuning, name):
+    """The cure of fewest for a station that sends, of as few the first."""
+    # Where all others are silent nothing disturbs it.
+    return fewest_of(air, tuning, name, other_senders(air, tuning, name))
 
 
 def is_cure(air, tuning, name, thing):

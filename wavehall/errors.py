@@ -1,4 +1,9 @@
-"""Every refusal of the program: what was told wrongly, and what can't be asked for."""
+"""Every refusal of the program: what was told wrongly, and what can't be asked for.
+
+A field that tells what was handed in, which may be anything, holds a copy of it.
+"""
+
+from wavehall.kinds import copied
 
 
 class WaveError(ValueError):
@@ -62,7 +67,7 @@ class NoStation(AskedError):
 
     def __init__(self, name):
         super().__init__(f"there is no station {name!r}")
-        self.name = name
+        self.name = copied(name)
 
 
 class Silent(AskedError):
@@ -70,7 +75,7 @@ class Silent(AskedError):
 
     def __init__(self, name):
         super().__init__(f"station {name!r} is silent")
-        self.name = name
+        self.name = copied(name)
 
 
 class TooMany(AskedError):
@@ -86,7 +91,7 @@ class NoLicence(AskedError):
 
     def __init__(self, number):
         super().__init__(f"there is no licence {number!r}")
-        self.number = number
+        self.number = copied(number)
 
 
 class Busy(AskedError):

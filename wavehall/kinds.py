@@ -1,12 +1,17 @@
-"""The kinds of values that all points share: whole numbers, names, pairs, fractions."""
+"""The kinds of values that all points share: whole numbers, names, pairs, fractions, copies."""
 
 NAME_LENGTH = 8
 
 
+def is_number(thing):
+    """Whether thing is a whole number, whichever."""
+    # Truths are numbers to Python, but none to us.
+    return isinstance(thing, int) and not isinstance(thing, bool)
+
+
 def is_whole(thing, low, high):
     """Whether thing is a whole number from low to high."""
-    # Truths are numbers to Python, but none to us.
-    return isinstance(thing, int) and not isinstance(thing, bool) and low <= thing <= high
+    return is_number(thing) and low <= thing <= high
 
 
 def is_name(thing):
@@ -24,6 +29,15 @@ def is_tuple_of(thing, many):
 def is_rising(things):
     """Whether things that can be compared stand in order, none twice."""
     return all(one < other for one, other in zip(things, things[1:]))
+
+
+def copied(thing):
+    """The thing, with each list in it, however deep, made anew."""
+    if isinstance(thing, list):
+        return [copied(part) for part in thing]
+    if isinstance(thing, tuple):
+        return tuple([copied(part) for part in thing])
+    return thing
 
 
 def common_divisor(one, other):
